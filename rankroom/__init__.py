@@ -1,0 +1,1 @@
+"""Rank room: rows of small numbers, kind by kind, each row with its number."""
