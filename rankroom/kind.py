@@ -92,3 +92,19 @@ def count_ways(nodes, ways_behind):
     for node in nodes:
         ways.append(sum([ways_behind[child] for child in node]))
     return ways
+
+
+def fit_letters(kind, letters):
+    """The kind's layers but the last, its nodes made to have so many letters: the last cut off, or dead ones added."""
+    added = (DEAD,) * letters
+    layers = []
+    for layer in kind.layers[:-1]:
+        layers.append([(node + added)[:letters] for node in layer])
+    return layers
+
+
+def follow(kind, place, node, number):
+    """The node that the number, of whatever size, leads to from a node before that place."""
+    if number >= kind.letters:
+        return DEAD
+    return kind.layers[place][node][number]

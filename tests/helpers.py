@@ -8,7 +8,8 @@ import itertools
 
 from rankroom.room import answers
 
-LISTED = (4, 12, 13, 14, 15)
+LISTED = (4, 12, 13, 14, 15, 20, 23, 24, 25, 26, 28, 29)
+LARGEST = 4294967295
 NAMES = {
     1: "words", 2: "choices", 3: "bags", 4: "orders", 5: "derangements", 6: "involutions", 7: "zigzags",
     8: "parts", 9: "shares", 10: "groups", 11: "paths", 12: "automaton", 13: "extensions", 14: "walks",
@@ -17,14 +18,74 @@ NAMES = {
 
 
 def made(number, t, *given):
-    """A call from 1 to 15 as it stands in a line; the last thing given is the list, if the call has one."""
+    """A call as it stands in a line; the last thing given is the list, if the call has one."""
     if number not in LISTED:
         return [number, t, *given]
     return [number, t, *given[:-1], len(given[-1]), *given[-1]]
 
 
 def both(t, a, b):
-    return [16, t, a, b]
+    return made(16, t, a, b)
+
+
+def either(t, a, b):
+    return made(17, t, a, b)
+
+
+def less(t, a, b):
+    return made(18, t, a, b)
+
+
+def then(t, a, b):
+    return made(19, t, a, b)
+
+
+def begins(t, a, p):
+    return made(20, t, a, p)
+
+
+def tell(t):
+    return made(21, t)
+
+
+def row_of(t, i):
+    return made(22, t, i)
+
+
+def number_of(t, row):
+    return made(23, t, row)
+
+
+def next_of(t, row):
+    return made(24, t, row)
+
+
+def previous_of(t, row):
+    return made(25, t, row)
+
+
+def beginning(t, row):
+    return made(26, t, row)
+
+
+def rows_from(t, i, m):
+    return made(27, t, i, m)
+
+
+def draw(t, drawn):
+    return made(28, t, drawn)
+
+
+def fair(n, drawn):
+    return made(29, n, drawn)
+
+
+def alike(a, b):
+    return made(30, a, b)
+
+
+def drop(t):
+    return made(31, t)
 
 
 def ask(*calls):
@@ -49,6 +110,15 @@ def ask(*calls):
 def ask_one(*calls):
     """The last call's answer."""
     return ask(*calls)[-1]
+
+
+def ask_many(making, questions):
+    """The answers to questions behind these calls, in as many lines of 40 calls as it takes."""
+    found = []
+    at_once = 40 - len(making)
+    for at in range(0, len(questions), at_once):
+        found += ask(*making, *questions[at:at + at_once])[len(making):]
+    return found
 
 
 def each_once(row, n):

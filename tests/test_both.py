@@ -4,34 +4,15 @@ import itertools
 import random
 import unittest
 
-from helpers import all_rows, ask, ask_one, both, length_of, made, rows_found
-
-# Kinds of lengths 0, 1, 3 and 4, with letters from none to many.
-POOL = [
-    (1, 0, 0), (1, 0, 5), (2, 4, 0), (4, [0, 0]), (5, 0), (8, 0, 0, 3), (8, 1, 0, 3), (9, 0, 0, 1, 2), (10, 0, 0),
-    (10, 0, 2), (11, 0, 1, 0), (12, 2, 2, 0b01, 0, [0, 1, 1, 0]), (12, 2, 2, 0b10, 0, [0, 1, 1, 0]), (13, []), (15, []),
-    (1, 1, 0), (1, 1, 6), (2, 3, 1), (5, 1), (6, 1), (8, 2, 1, 4), (9, 3, 1, 0, 5), (10, 1, 1), (11, 1, 2, 1),
-    (14, 0, 2, 3, [7, 7, 7]), (14, 0, 3, 3, [0, 0, 0]), (13, [0]), (13, [1]), (15, [1]),
-    (1, 3, 4), (1, 3, 2), (1, 3, 0), (2, 5, 3), (3, 4, 3), (4, [1, 2]), (4, [0, 1, 0, 1, 1]), (5, 3), (6, 3), (7, 3),
-    (8, 4, 3, 3), (8, 3, 3, 1), (9, 6, 3, 1, 4), (9, 4, 3, 0, 5), (10, 3, 2), (10, 3, 3), (11, 3, 2, 1), (11, 3, 3, 3),
-    (12, 3, 3, 0b101, 3, [1, 2, 0, 2, 3, 1, 255, 0, 1]), (12, 2, 5, 0b10, 3, [0, 1, 0, 1, 0, 1, 0, 1, 0, 1]),
-    (13, [0, 1, 0]), (13, [2, 0, 0]), (14, 2, 4, 4, [0b1010, 0b1101, 0b0110, 0b0011]), (14, 2, 0, 2, [7, 6, 5]),
-    (15, [7, 7, 7]),
-    (1, 4, 3), (2, 6, 4), (3, 3, 4), (4, [2, 1, 1]), (4, [1, 1, 1, 1]), (4, [2, 2]), (5, 4), (6, 4), (7, 4),
-    (8, 6, 4, 4), (8, 2, 4, 2), (9, 6, 4, 0, 3), (9, 5, 4, 1, 2), (10, 4, 2), (10, 4, 4), (11, 4, 2, 0), (11, 4, 4, 2),
-    (12, 4, 4, 0b1001, 4, [1, 2, 3, 0, 0, 3, 1, 2, 3, 3, 2, 1, 4, 0, 1, 255]), (12, 1, 2, 1, 4, [0, 0]),
-    (13, [0, 0, 0, 0]), (13, [0, 1, 0, 4]), (14, 3, 4, 4, [0b1110, 0b1101, 0b1011, 0b0111]),
-    (14, 3, 2, 1, [0b111, 0b110, 0b011]), (15, [15, 15, 15, 15]), (15, [10, 5, 10, 5]),
-]
+from helpers import all_rows, ask, ask_one, both, made, rows_found
+from model import BY_LENGTH, POOL, one_of
 
 
 class AgainstAllRows(unittest.TestCase):
     @classmethod
     def setUpClass(cls):
-        cls.rows = [set(all_rows(*kind)) for kind in POOL]
-        cls.by_length = {}
-        for at, kind in enumerate(POOL):
-            cls.by_length.setdefault(length_of(*kind), []).append(at)
+        cls.rows = [set(one_of(*kind).rows) for kind in POOL]
+        cls.by_length = BY_LENGTH
 
     def make(self, t, at):
         number, *given = POOL[at]

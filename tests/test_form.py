@@ -30,6 +30,10 @@ METHODS = set((
 WORDS = (
     "type typing typing_extensions enum Enum IntEnum StrEnum Flag IntFlag Generic Protocol ABC ABCMeta namedtuple "
     "NamedTuple TypedDict TYPE_CHECKING abstractmethod").split()
+WALKED = ("zip", "enumerate", "reversed", "range")
+WALKED_METHODS = ("items", "keys", "values")
+WALKERS = ("list", "tuple", "dict", "sorted", "sum", "any", "all", "enumerate", "zip", "min", "max")
+CHANGING = ("append", "clear", "extend", "insert", "pop", "remove", "reverse", "setdefault", "update")
 BUILT_IN = set(dir(builtins))
 
 
@@ -138,6 +142,47 @@ class Form(unittest.TestCase):
         for where, node in self.nodes(ast.Attribute):
             if isinstance(node.ctx, ast.Store):
                 self.assertNotIn(node.attr, methods, where)
+
+    def test_walked_at_once(self):
+        for name, tree in self.trees.items():
+            on_the_spot = []
+            for node in ast.walk(tree):
+                if isinstance(node, (ast.For, ast.comprehension)):
+                    on_the_spot.append(node.iter)
+                if isinstance(node, ast.Call) and getattr(node.func, "id", "") in WALKERS and node.args:
+                    on_the_spot.append(node.args[0])
+            for node in ast.walk(tree):
+                if isinstance(node, ast.Call):
+                    if getattr(node.func, "id", "") in WALKED or getattr(node.func, "attr", "") in WALKED_METHODS:
+                        self.assertIn(node, on_the_spot, (name, node.lineno))
+
+    def test_what_a_loop_walks_is_not_changed(self):
+        for where, node in self.nodes(ast.For):
+            walked = {inner.id for inner in ast.walk(node.iter) if isinstance(inner, ast.Name)}
+            for inner in ast.walk(ast.Module(node.body, [])):
+                if isinstance(inner, ast.Call) and getattr(inner.func, "attr", "") in CHANGING:
+                    self.assertNotIn(getattr(inner.func.value, "id", ""), walked, where)
+
+    def test_no_two_files_draw_from_one_another(self):
+        drawn = {}
+        for name, tree in self.trees.items():
+            modules = [node.module for node in tree.body if isinstance(node, ast.ImportFrom)]
+            drawn[name] = {module.split("rankroom.")[1] + ".py" for module in modules}
+        while drawn:
+            free = [name for name, others in drawn.items() if not others & set(drawn)]
+            self.assertTrue(free, drawn)
+            for name in free:
+                drawn.pop(name)
+
+    def test_tables_at_the_top_are_only_read(self):
+        for name, tree in self.trees.items():
+            tables = {node.targets[0].id for node in tree.body if isinstance(node, ast.Assign)
+                      and isinstance(node.value, (ast.Dict, ast.List))}
+            for node in ast.walk(tree):
+                if isinstance(node, ast.Subscript) and not isinstance(node.ctx, ast.Load):
+                    self.assertNotIn(getattr(node.value, "id", ""), tables, (name, node.lineno))
+                if isinstance(node, ast.Call) and getattr(node.func, "attr", "") in CHANGING:
+                    self.assertNotIn(getattr(node.func.value, "id", ""), tables, (name, node.lineno))
 
     def test_texts(self):
         for where, node in self.nodes(ast.Constant):

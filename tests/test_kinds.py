@@ -132,7 +132,8 @@ class LettersAndSize(unittest.TestCase):
             self.assertEqual(self.kind(made(number, 0, *given)).letters, told(number, *given)[1], NAMES[number])
 
     def test_letters_of_both(self):
-        for first, second in itertools.product([(1, 4, 3), (8, 5, 4, 3), (11, 4, 2, 0), (2, 20, 4), (1, 4, 0)], repeat=2):
+        kinds = [(1, 4, 3), (8, 5, 4, 3), (11, 4, 2, 0), (2, 20, 4), (1, 4, 0)]
+        for first, second in itertools.product(kinds, repeat=2):
             kind = self.kind(made(first[0], 0, *first[1:]), made(second[0], 1, *second[1:]), both(0, 0, 1))
             self.assertEqual(kind.letters, min(told(*first)[1], told(*second)[1]))
 
