@@ -43,7 +43,7 @@ class TooManyRows(unittest.TestCase):
         self.assertEqual(room.keep(0, below), [0, 62, 2 ** 62 - 1])
 
     def test_either(self):
-        # Shares with other sums have no row in common; these two come nearest to 2 to the 62nd, on both sides.
+        # Shares with other sums have no row in common; these pairs come near to 2 to the 62nd, on both sides.
         below = [made(9, 0, 86, 18, 0, 13), made(9, 1, 157, 18, 4, 18)]
         above = [made(9, 0, 70, 18, 0, 16), made(9, 1, 89, 18, 0, 14)]
         for a, b in ((0, 1), (1, 0)):
